@@ -1,7 +1,11 @@
 // Package abacus works with exact numbers, line by line: see DOC.md.
 package abacus
 
-import "abacus/fraction"
+import (
+	"strings"
+
+	"abacus/fraction"
+)
 
 // Errno is what a call answers: OK or the reason for a refusal.
 type Errno int
@@ -45,11 +49,45 @@ func Calc(op string, a string, b string) (string, Errno) {
 	return result.Text(), OK
 }
 
-// Session is names. Make it by New.
-type Session struct{}
+const (
+	maxLine  = 120 // bytes
+	maxNames = 12
+)
+
+// Session is names, and what they are worth. Make it by New.
+type Session struct {
+	names map[string]list
+}
 
 // New makes a session (P2).
-func New() *Session { return &Session{} }
+func New() *Session { return &Session{map[string]list{}} }
 
 // Line does a line (P4 to P8).
-func (s *Session) Line(line string) (string, Errno, int) { return "", OK, 0 }
+func (s *Session) Line(line string) (text string, errno Errno, place int) {
+	if len(line) > maxLine {
+		return "", ErrLong, 0
+	}
+	defer func() {
+		if given := recover(); given != nil {
+			refused := refusalIn(given)
+			text, errno, place = "", refused.errno, refused.place
+		}
+	}()
+	named, worth := readLine(line, s.names)
+	items := worth(&tally{})
+	if named == "" {
+		return items.text(), OK, 0
+	}
+	// The name is a piece of the line, which is not to be kept.
+	s.names[strings.Clone(named)] = items
+	return "", OK, 0
+}
+
+// refusal is what a line is given up with, wherever it turns out to be wrong.
+type refusal struct {
+	errno Errno
+	place int
+}
+
+// refusalIn holds because nothing else is raised while a line is done.
+func refusalIn(given any) refusal { return given.(refusal) }
