@@ -49,18 +49,15 @@ func Calc(op string, a string, b string) (string, Errno) {
 	return result.Text(), OK
 }
 
-const (
-	maxLine  = 120 // bytes
-	maxNames = 12
-)
+const maxLine = 120 // bytes
 
-// Session is names, and what they are worth. Make it by New.
+// Session is names, and what they mean. Make it by New.
 type Session struct {
-	names map[string]list
+	names map[string]meaning
 }
 
 // New makes a session (P2).
-func New() *Session { return &Session{map[string]list{}} }
+func New() *Session { return &Session{map[string]meaning{}} }
 
 // Line does a line (P4 to P8).
 func (s *Session) Line(line string) (text string, errno Errno, place int) {
@@ -73,15 +70,21 @@ func (s *Session) Line(line string) (text string, errno Errno, place int) {
 			text, errno, place = "", refused.errno, refused.place
 		}
 	}()
-	named, worth := readLine(line, s.names)
-	items := worth(&tally{})
-	if named == "" {
+	head, whole := readLine(line, s.names)
+	if head.defines() {
+		s.keep(head.named, meaning{operation: whole})
+		return "", OK, 0
+	}
+	items := workOut(whole)
+	if head.named == "" {
 		return items.text(), OK, 0
 	}
-	// The name is a piece of the line, which is not to be kept.
-	s.names[strings.Clone(named)] = items
+	s.keep(head.named, meaning{items: items})
 	return "", OK, 0
 }
+
+// keep takes a copy of the name: it is a piece of the line, which is not to be kept.
+func (s *Session) keep(named string, is meaning) { s.names[strings.Clone(named)] = is }
 
 // refusal is what a line is given up with, wherever it turns out to be wrong.
 type refusal struct {

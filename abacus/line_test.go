@@ -79,7 +79,7 @@ func TestP1LongLines(t *testing.T) {
 func TestP1AllLines(t *testing.T) {
 	random := rand.New(rand.NewSource(6))
 	pieces := []string{"1", "2", "0", "~", "/", "\\", "1/2", "~3", " ", " ", "+", "-", "*", "%", "|", "^", "<", ">", "=", "min", "max", "@", ",", "#",
-		"abs", "iota", "rev", "len", "def", "v", "w", "x", "(", ")", ":", "40", "$", "\x00", "\xff", "\t", "A", "abcdefg", "99999999999999999999"}
+		"abs", "iota", "rev", "len", "def", "def f y:", "def g v: f ", "f ", "g ", "y", "v", "w", "x", "(", ")", ":", "40", "$", "\x00", "\xff", "\t", "A", "abcdefg", "99999999999999999999"}
 	s := sessionWith(t, "v: 1 2 3", "w: iota 40")
 	for range 200000 {
 		var line string
@@ -208,7 +208,7 @@ func TestP2SideBySide(t *testing.T) {
 
 func TestP4Examples(t *testing.T) {
 	s := sessionWith(t, "v: 1 2 3")
-	checkShown(t, s, [][2]string{{"10 - 2 - 3", "11"}, {"+/ v * 10", "60"}, {"-\\ v", "1 ~1 2"}, {"v *@ 1 10", "1 10 2 20 3 30"}})
+	checkShown(t, s, [][2]string{{"10 - 2 - 3", "11"}, {"+/ v * 10", "60"}, {"-\\ v", "1 ~1 2"}, {"v *@ 1 10", "1 10 2 20 3 30"}, {"def half a: a % 2", ""}, {"half v", "1/2 1 3/2"}})
 }
 
 func TestP4Long(t *testing.T) {

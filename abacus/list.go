@@ -8,10 +8,7 @@ import (
 	"abacus/fraction"
 )
 
-const (
-	maxItems = 40
-	maxSteps = 3000
-)
+const maxItems = 40
 
 // list is what all in a line is worth. It is never changed: names and lists share items.
 type list []fraction.Fraction
@@ -24,22 +21,17 @@ func (items list) text() string {
 	return strings.Join(texts, " ")
 }
 
-// tally counts what a line uses up while it is worked out.
-type tally struct {
-	steps int
-}
-
 // together works out the items of a list at the same time: each is a row of
 // numbers with the dyad between. Every item is told how many steps are left when
 // all items ahead of it have made theirs, so that none waits for another. If one
 // has too few, the line is given up, and what was counted does not matter.
-func (t *tally) together(d dyad, place int, rows []list) list {
+func (r *run) together(d dyad, rows []list) list {
 	items := make(list, len(rows))
 	errnos := make([]Errno, len(rows))
 	var workers sync.WaitGroup
 	for i, row := range rows {
-		left := maxSteps - t.steps
-		t.steps += len(row) - 1
+		left := maxSteps - r.steps
+		r.steps += len(row) - 1
 		workers.Add(1)
 		go func() {
 			defer workers.Done()
@@ -50,7 +42,7 @@ func (t *tally) together(d dyad, place int, rows []list) list {
 	for _, errno := range errnos {
 		// A panic in a worker could not be caught at the face: it is raised here.
 		if errno != OK {
-			panic(refusal{errno, place})
+			r.refuse(errno)
 		}
 	}
 	return items
@@ -74,26 +66,26 @@ func between(d dyad, row list, steps int) (fraction.Fraction, Errno) {
 }
 
 // byItem works with the items of both sides one by one (P6).
-func (t *tally) byItem(d dyad, place int, left, right list) list {
+func (r *run) byItem(d dyad, left, right list) list {
 	if len(left) == 1 {
 		left = again(left, len(right))
 	} else if len(right) == 1 {
 		right = again(right, len(left))
 	}
 	if len(left) != len(right) {
-		panic(refusal{ErrShape, place})
+		r.refuse(ErrShape)
 	}
 	rows := make([]list, len(left))
 	for i := range rows {
 		rows[i] = list{left[i], right[i]}
 	}
-	return t.together(d, place, rows)
+	return r.together(d, rows)
 }
 
 // allPairs works with each item of the left side and each of the right one (P6).
-func (t *tally) allPairs(d dyad, place int, left, right list) list {
+func (r *run) allPairs(d dyad, left, right list) list {
 	if len(left)*len(right) > maxItems {
-		panic(refusal{ErrShape, place})
+		r.refuse(ErrShape)
 	}
 	var rows []list
 	for _, a := range left {
@@ -101,37 +93,37 @@ func (t *tally) allPairs(d dyad, place int, left, right list) list {
 			rows = append(rows, list{a, b})
 		}
 	}
-	return t.together(d, place, rows)
+	return r.together(d, rows)
 }
 
 // reduce puts the dyad between all items (P7).
-func (t *tally) reduce(d dyad, place int, items list) list {
+func (r *run) reduce(d dyad, items list) list {
 	if len(items) == 0 {
-		panic(refusal{ErrShape, place})
+		r.refuse(ErrShape)
 	}
-	return t.together(d, place, []list{items})
+	return r.together(d, []list{items})
 }
 
 // scan reduces the first item, the first two, and so on (P7).
-func (t *tally) scan(d dyad, place int, items list) list {
+func (r *run) scan(d dyad, items list) list {
 	if len(items) == 0 {
-		panic(refusal{ErrShape, place})
+		r.refuse(ErrShape)
 	}
 	rows := make([]list, len(items))
 	for i := range rows {
 		rows[i] = items[:i+1]
 	}
-	return t.together(d, place, rows)
+	return r.together(d, rows)
 }
 
 // absolute takes the higher one of each item and its negation: that is the item
 // without its sign, and it makes one step (P5, P7).
-func (t *tally) absolute(place int, items list) list {
+func (r *run) absolute(items list) list {
 	rows := make([]list, len(items))
 	for i, item := range items {
 		rows[i] = list{item, fraction.Negate(item)}
 	}
-	return t.together(higher, place, rows)
+	return r.together(higher, rows)
 }
 
 func reversed(items list) list {
@@ -141,8 +133,8 @@ func reversed(items list) list {
 }
 
 // upTo answers the numbers from 1 on (P7).
-func upTo(place int, items list) list {
-	count := countIn(place, items)
+func (r *run) upTo(items list) list {
+	count := r.countIn(items)
 	numbers := make(list, count)
 	for i := range numbers {
 		numbers[i] = fraction.Whole(uint32(i + 1))
@@ -151,30 +143,30 @@ func upTo(place int, items list) list {
 }
 
 // follow puts the right side's items behind the left one's (P8).
-func follow(place int, left, right list) list {
+func (r *run) follow(left, right list) list {
 	if len(left)+len(right) > maxItems {
-		panic(refusal{ErrShape, place})
+		r.refuse(ErrShape)
 	}
 	return slices.Concat(left, right)
 }
 
 // repeat takes as many of the right side's items as the left side says (P8).
-func repeat(place int, left, right list) list {
-	count := countIn(place, left)
+func (r *run) repeat(left, right list) list {
+	count := r.countIn(left)
 	if count > 0 && len(right) == 0 {
-		panic(refusal{ErrShape, place})
+		r.refuse(ErrShape)
 	}
 	return again(right, count)
 }
 
 // countIn answers the only item as a number of items (P7, P8).
-func countIn(place int, items list) int {
+func (r *run) countIn(items list) int {
 	if len(items) != 1 {
-		panic(refusal{ErrShape, place})
+		r.refuse(ErrShape)
 	}
 	count, ok := items[0].WholeWithin(maxItems)
 	if !ok || count < 0 {
-		panic(refusal{ErrArg, place})
+		r.refuse(ErrArg)
 	}
 	return count
 }

@@ -21,25 +21,49 @@ type answer struct {
 	place int
 }
 
+// scene is what a piece is worked out in.
+type scene struct {
+	steps *int
+	given []*big.Rat // to the operation
+}
+
 // piece works out its answer, and counts the steps.
-type piece func(steps *int) answer
+type piece func(in scene) answer
+
+// operation is what a random "def" has made.
+type operation struct {
+	work   piece
+	weight int // how many operations it does in all
+}
+
+// An operation that is heavier is not used by others: here each use is worked out one by one.
+const tooHeavy = 50
 
 // writer writes a random line, and makes the pieces of it.
 type writer struct {
-	random *rand.Rand
-	line   string
-	names  map[string][]*big.Rat
+	random     *rand.Rand
+	line       string
+	names      map[string][]*big.Rat
+	operations map[string]operation
+	given      string // the name of what is given, in a "def"
+	weight     int
 }
 
 // TestP5AgainstRationals does random lines in sessions, and works out the same in another way.
 func TestP5AgainstRationals(t *testing.T) {
 	random := rand.New(rand.NewSource(7))
 	seen := map[abacus.Errno]int{}
-	for range 100 {
+	for range 200 {
 		s := sessionWith(t, "none: iota 0", "forty: iota 40", "half: 1/2", "v: 3 1 2")
 		names := map[string][]*big.Rat{"none": {}, "forty": ratsUpTo(40), "half": {big.NewRat(1, 2)}, "v": {big.NewRat(3, 1), big.NewRat(1, 1), big.NewRat(2, 1)}}
+		operations := map[string]operation{}
 		for range 100 {
-			seen[checkRandomLine(t, s, &writer{random: random, names: names})]++
+			w := &writer{random: random, names: names, operations: operations}
+			if random.Intn(6) == 0 {
+				defineRandomly(t, s, w)
+			} else {
+				seen[checkRandomLine(t, s, w)]++
+			}
 		}
 	}
 	for _, errno := range []abacus.Errno{abacus.OK, abacus.ErrShape, abacus.ErrArg, abacus.ErrZero, abacus.ErrBig, abacus.ErrSteps} {
@@ -47,6 +71,23 @@ func TestP5AgainstRationals(t *testing.T) {
 			t.Errorf("only %d lines answer %d", seen[errno], errno)
 		}
 	}
+}
+
+// defineRandomly: what is given may have the name of a list or of another operation.
+func defineRandomly(t *testing.T, s *abacus.Session, w *writer) {
+	t.Helper()
+	named := w.pick("f", "g", "h")
+	w.given = w.pick(slices.DeleteFunc([]string{"f", "g", "h", "v", "x", "p", "p", "p"}, func(text string) bool { return text == named })...)
+	for _, text := range []string{"def", named, w.given, ":"} {
+		w.write(text)
+	}
+	whole := w.expr(0)
+	if len(w.line) > 120 {
+		checkLines(t, s, []lineCase{{w.line, "", abacus.ErrLong, 0}})
+		return
+	}
+	checkLines(t, s, []lineCase{{w.line, "", abacus.OK, 0}})
+	w.operations[named] = operation{whole, w.weight + 1}
 }
 
 func checkRandomLine(t *testing.T, s *abacus.Session, w *writer) abacus.Errno {
@@ -62,7 +103,7 @@ func checkRandomLine(t *testing.T, s *abacus.Session, w *writer) abacus.Errno {
 		checkLines(t, s, []lineCase{{w.line, "", abacus.ErrLong, 0}})
 		return abacus.ErrLong
 	}
-	want := whole(new(int))
+	want := whole(scene{steps: new(int)})
 	text := ""
 	if want.errno == abacus.OK && named == "" {
 		text = ratsText(want.items)
@@ -98,7 +139,8 @@ func runsOn(a, b byte) bool {
 func (w *writer) pick(texts ...string) string { return texts[w.random.Intn(len(texts))] }
 
 func (w *writer) expr(open int) piece {
-	choice := w.random.Intn(10)
+	choice := w.random.Intn(13)
+	usable := w.usable()
 	if len(w.line) > longEnough {
 		return w.operand(open)
 	}
@@ -111,6 +153,10 @@ func (w *writer) expr(open int) piece {
 		return w.monad(open)
 	case 5:
 		return w.operand(open)
+	case 6, 7, 8:
+		if len(usable) > 0 {
+			return w.use(open, w.pick(usable...))
+		}
 	}
 	left := w.operand(open)
 	joint := w.pick(append(dyads[:], ",", ",", "#", "#")...)
@@ -120,17 +166,43 @@ func (w *writer) expr(open int) piece {
 		w.write("@")
 	}
 	right := w.expr(open)
-	return func(steps *int) answer {
-		b := right(steps)
+	return func(in scene) answer {
+		b := right(in)
 		if b.errno != abacus.OK {
 			return b
 		}
-		a := left(steps)
+		a := left(in)
 		if a.errno != abacus.OK {
 			return a
 		}
-		items, errno := joined(joint, all, a.items, b.items, steps)
+		items, errno := joined(joint, all, a.items, b.items, in.steps)
 		return answerOf(items, errno, place)
+	}
+}
+
+// usable are the operations that may stand here.
+func (w *writer) usable() []string {
+	var usable []string
+	for _, named := range slices.Sorted(maps.Keys(w.operations)) {
+		if named != w.given && (w.given == "" || w.operations[named].weight <= tooHeavy) {
+			usable = append(usable, named)
+		}
+	}
+	return usable
+}
+
+func (w *writer) use(open int, named string) piece {
+	place := w.write(named)
+	used := w.operations[named]
+	w.weight += used.weight
+	given := w.expr(open)
+	return func(in scene) answer {
+		a := given(in)
+		if a.errno != abacus.OK {
+			return a
+		}
+		made := used.work(scene{in.steps, a.items})
+		return answerOf(made.items, made.errno, place)
 	}
 }
 
@@ -194,8 +266,8 @@ func (w *writer) folded(open int, sign string) piece {
 	place := w.write(op)
 	w.write(sign)
 	given := w.expr(open)
-	return func(steps *int) answer {
-		a := given(steps)
+	return func(in scene) answer {
+		a := given(in)
 		if a.errno != abacus.OK {
 			return a
 		}
@@ -208,7 +280,7 @@ func (w *writer) folded(open int, sign string) piece {
 		}
 		var items []*big.Rat
 		for count := first; count <= len(a.items); count++ {
-			item, errno := folding(op, a.items[:count], steps)
+			item, errno := folding(op, a.items[:count], in.steps)
 			if errno != abacus.OK {
 				return answer{nil, errno, place}
 			}
@@ -233,12 +305,12 @@ func (w *writer) monad(open int) piece {
 	word := w.pick("-", "%", "abs", "iota", "rev", "len")
 	place := w.write(word)
 	given := w.expr(open)
-	return func(steps *int) answer {
-		a := given(steps)
+	return func(in scene) answer {
+		a := given(in)
 		if a.errno != abacus.OK {
 			return a
 		}
-		items, errno := monadic(word, a.items, steps)
+		items, errno := monadic(word, a.items, in.steps)
 		return answerOf(items, errno, place)
 	}
 }
@@ -280,7 +352,13 @@ func (w *writer) operand(open int) piece {
 		return inner
 	case kind < 5:
 		name := w.pick(append(slices.Sorted(maps.Keys(w.names)), "forty")...)
+		if w.given != "" && w.random.Intn(3) > 0 {
+			name = w.given
+		}
 		w.write(name)
+		if name == w.given {
+			return func(in scene) answer { return answer{in.given, abacus.OK, 0} }
+		}
 		items = w.names[name]
 	default:
 		for range 1 + max(0, w.random.Intn(6)-3) {
@@ -290,7 +368,7 @@ func (w *writer) operand(open int) piece {
 			items = append(items, item)
 		}
 	}
-	return func(*int) answer { return answer{items, abacus.OK, 0} }
+	return func(scene) answer { return answer{items, abacus.OK, 0} }
 }
 
 func ratCount(items []*big.Rat) (int, abacus.Errno) {

@@ -20,6 +20,7 @@ const (
 	number
 	name
 	dyadSign
+	defWord
 	absWord
 	iotaWord
 	revWord
@@ -110,6 +111,8 @@ func signOf(text string) sign {
 
 func kindOf(text string) kind {
 	switch text {
+	case "def":
+		return defWord
 	case "abs":
 		return absWord
 	case "iota":
@@ -118,8 +121,6 @@ func kindOf(text string) kind {
 		return revWord
 	case "len":
 		return lenWord
-	case "def": // operations are not built yet
-		return wrong
 	case ":":
 		return colon
 	case ",":
